@@ -1,0 +1,1 @@
+"""Moments tied by spans, some of which only fall out."""
