@@ -14,13 +14,13 @@ class BadWeb(MomentError):
 
 class NoTimes(MomentError):
     def __init__(self, ring):
-        MomentError.__init__(self, ring)
+        MomentError.__init__(self, list(ring))
         self.ring = list(ring)
 
 
 class NoHand(MomentError):
     def __init__(self, paper):
-        MomentError.__init__(self, paper)
+        MomentError.__init__(self, list(paper))
         self.paper = list(paper)
 
 

@@ -147,6 +147,14 @@ def ring_total(ring, found):
     return total
 
 
+def is_ring(ring, found, fewest):
+    """Whether it lists moments, none twice, that leave no room by the bounds found."""
+    if type(ring) is not list or len(ring) < fewest or len(ring) != len(set(ring)):
+        return False
+    total = ring_total(ring, found)
+    return total is not None and total < 0
+
+
 def some_spans(chance, times, count, slack, wild):
     """Ties round the given times, `slack` wide at most; every `wild`th or so has any numbers instead."""
     ties = []

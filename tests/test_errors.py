@@ -25,7 +25,7 @@ class ErrorsTest(unittest.TestCase):
         no_times, no_hand = NoTimes(ring), NoHand(paper)
         ring.append(3)
         paper.append("more")
-        self.assertEqual(no_times.ring, [1, 2])
+        self.assertEqual((no_times.ring, no_times.args), ([1, 2], ([1, 2],)))
         self.assertEqual(no_hand.paper, [(("tie", 0, 0, -1), "told", ())])
 
     def test_errors_can_be_copied(self):

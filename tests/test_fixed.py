@@ -4,7 +4,7 @@ import unittest
 from momentties.errors import NoTimes
 from momentties.fixed import fixed
 from momentties.webs import Web
-from tests.reckoning import (earliest_choice, fixed_choices, in_room, outcomes, own_moments, ring_total, some_web,
+from tests.reckoning import (earliest_choice, fixed_choices, in_room, is_ring, outcomes, own_moments, some_web,
                              spans_kept, with_ends, worst_bounds)
 
 
@@ -28,7 +28,7 @@ def large_webs():
                     yield some_web(chance, many, last, fall_count, many, last, wild, longest=4)
 
 
-def lower_bounds_only(web):
+def pushed_times(web):
     """The earliest own times, by pushing each as late as another one asks; None where that doesn't end."""
     times = [0] * web[0]
     for turn in range(web[0] * web[1] + 2):
@@ -46,13 +46,8 @@ class FixedTest(unittest.TestCase):
             fixed(Web(*web))
         self.assertIs(type(caught.exception), NoTimes)
         ring = caught.exception.ring
-        self.assertIs(type(ring), list)
-        self.assertGreaterEqual(len(ring), 1)
-        self.assertEqual(len(ring), len(set(ring)))
+        self.assertTrue(is_ring(ring, worst_bounds(web), 1), ring)
         self.assertLessEqual(set(ring), set(own_moments(web)))
-        total = ring_total(ring, worst_bounds(web))
-        self.assertIsNotNone(total)
-        self.assertLess(total, 0)
         return ring
 
     def test_small_webs_by_every_choice_and_every_outcome(self):
@@ -73,7 +68,7 @@ class FixedTest(unittest.TestCase):
         met = {True: 0, False: 0}
         for web in large_webs():
             with self.subTest(web=web):
-                pushed = lower_bounds_only(web)
+                pushed = pushed_times(web)
                 met[pushed is not None] += 1
                 if pushed is None:
                     self.held_to_ring(web)
@@ -103,7 +98,7 @@ class FixedTest(unittest.TestCase):
     def test_a_moment_waits_for_the_latest_end(self):
         self.assertEqual(fixed(Web(3, 20, [(2, 1, 0, 60)], [(0, 2, 3, 8)])), [0, 8, None])
         self.assertEqual(fixed(Web(3, 20, [(2, 1, 0, 5)], [(0, 2, 3, 8)])), [0, 8, None])
-        self.assertEqual(self.held_to_ring((3, 20, [(2, 1, 0, 4)], [(0, 2, 3, 8)])) in ([0, 1], [1, 0]), True)
+        self.assertEqual(sorted(self.held_to_ring((3, 20, [(2, 1, 0, 4)], [(0, 2, 3, 8)]))), [0, 1])
 
     def test_an_end_is_within_the_last_time_at_the_latest(self):
         self.assertEqual(fixed(Web(3, 20, [(0, 1, 12, 20)], [(1, 2, 3, 8)])), [0, 12, None])

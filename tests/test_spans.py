@@ -4,8 +4,8 @@ import unittest
 from momentties.errors import NoTimes
 from momentties.spans import earliest, keeps, latest, spare, tight
 from momentties.webs import Web
-from tests.reckoning import (bounds, earliest_choice, is_kept, kept_times, ring_total, some_web, spare_by_table,
-                             tight_by_choices, tight_by_narrowing)
+from tests.reckoning import (bounds, is_kept, is_ring, kept_times, some_web, spare_by_table, tight_by_choices,
+                             tight_by_narrowing)
 
 
 def table_by_choices(web):
@@ -35,13 +35,7 @@ class Held(unittest.TestCase):
         with self.assertRaises(NoTimes) as caught:
             asked(Web(*web))
         self.assertIs(type(caught.exception), NoTimes)
-        ring = caught.exception.ring
-        self.assertIs(type(ring), list)
-        self.assertGreaterEqual(len(ring), 2)
-        self.assertEqual(len(ring), len(set(ring)))
-        total = ring_total(ring, bounds(web))
-        self.assertIsNotNone(total)
-        self.assertLess(total, 0)
+        self.assertTrue(is_ring(caught.exception.ring, bounds(web), 2), caught.exception.ring)
 
     def all_refused(self, web):
         for asked in (tight, earliest, latest, spare):
