@@ -139,6 +139,69 @@ class FormTest(unittest.TestCase):
                 if isinstance(node, ast.Call) and isinstance(node.func, ast.Name) and node.func.id in WALKED:
                     self.assertIn(node, walked, (path, node.lineno))
 
+    def test_no_two_files_draw_from_one_another(self):
+        draws = {path.stem: set() for path in FILES}
+        for path, node in nodes(ast.ImportFrom):
+            draws[path.stem].add(node.module.split(".")[1])
+        for name in draws:
+            reached = set(draws[name])
+            while not all(draws[each] <= reached for each in reached):
+                reached |= set().union(*[draws[each] for each in reached])
+            self.assertNotIn(name, reached)
+
+    def test_names_of_the_top_are_bound_once_and_not_again_below(self):
+        for path, tree in trees():
+            top, outside = [], []
+            for node in tree.body:
+                if isinstance(node, ast.ImportFrom):
+                    outside += [alias.name for alias in node.names]
+                elif isinstance(node, ast.Assign):
+                    top.append(node.targets[0].id)
+                    self.assertTrue(all(not isinstance(each, (ast.List, ast.Dict)) for value in ast.iter_child_nodes(
+                        node.value) for each in ast.walk(value)), (path, node.lineno))
+                elif isinstance(node, ast.ClassDef):
+                    outside.append(node.name)
+                elif isinstance(node, ast.FunctionDef):
+                    top.append(node.name)
+            self.assertEqual(len(top + outside), len(set(top + outside)), path)
+            for node in ast.walk(tree):
+                if isinstance(node, ast.arg) or isinstance(node, ast.Name) and isinstance(node.ctx, ast.Store):
+                    self.assertNotIn(node.arg if isinstance(node, ast.arg) else node.id, outside, (path, node.lineno))
+
+    def test_own_names_of_objects_are_free(self):
+        taken = {name for kind in (str, int, list, tuple, dict, set, bytes) for name in dir(kind)}
+        for path, node in nodes((ast.Attribute, ast.FunctionDef)):
+            if isinstance(node, ast.Attribute) and isinstance(node.ctx, ast.Store):
+                self.assertNotIn(node.attr, taken, (path, node.lineno))
+        for path, node in nodes(ast.ClassDef):
+            names = [each.name for each in node.body if isinstance(each, ast.FunctionDef)]
+            self.assertEqual(len(names), len(set(names)), (path, node.name))
+            self.assertEqual(set(names) & taken - TWO_UNDERSCORES, set(), (path, node.name))
+            self.assertLessEqual(len(node.bases), 1)
+            self.assertTrue(all(isinstance(each, (ast.FunctionDef, ast.Pass)) for each in node.body), (path, node.name))
+
+    def test_no_sets_no_keywords_and_plain_texts(self):
+        for path, node in nodes((ast.Set, ast.keyword)):
+            self.fail((path, node))
+        for path, node in nodes(ast.Name):
+            self.assertNotIn(node.id, ("set", "frozenset"), (path, node.lineno))
+        for path, node in nodes(ast.Constant):
+            if isinstance(node.value, str):
+                self.assertNotIn("%", node.value, (path, node.lineno))
+        for path, node in nodes(ast.FormattedValue):
+            self.assertIsInstance(node.value, ast.Name, (path, node.lineno))
+            self.assertIsNone(node.format_spec, (path, node.lineno))
+
+    def test_what_a_loop_walks_is_not_changed_in_it(self):
+        changing = ("append", "clear", "extend", "insert", "pop", "remove", "reverse", "setdefault", "update")
+        for path, loop in nodes(ast.For):
+            walked = ast.dump(loop.iter)
+            for node in ast.walk(loop):
+                if isinstance(node, ast.Call) and isinstance(node.func, ast.Attribute) and node.func.attr in changing:
+                    self.assertNotEqual(ast.dump(node.func.value), walked, (path, node.lineno))
+                if isinstance(node, ast.Subscript) and isinstance(node.ctx, ast.Store):
+                    self.assertNotEqual(ast.dump(node.value), walked, (path, node.lineno))
+
     def test_is_stands_beside_none_and_truth_alone(self):
         for path, node in nodes(ast.Compare):
             for sign, right in zip(node.ops, node.comparators):
