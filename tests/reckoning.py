@@ -208,6 +208,22 @@ def following_web(chance, many, last, fall_count, tie_count, longest):
     return many, last, ties, falls
 
 
+def one_sided_web(chance, many, last, fall_count, tie_count, longest):
+    """A web by chance with ties that bound on one side alone, every second or so between two ends."""
+    ends = chance.sample(range(1, many), fall_count)
+    own = [moment for moment in range(many) if moment not in ends]
+    ties, falls = [], []
+    for end in ends:
+        least, most = sorted([chance.randint(1, longest), chance.randint(1, longest)])
+        falls.append((chance.choice(own), end, least, most))
+    for number in range(tie_count):
+        between_ends = fall_count > 1 and chance.randrange(2)
+        one, other = chance.sample(ends if between_ends else range(many), 2)
+        number = chance.randint(-longest // 2, longest // 2)
+        ties.append((one, other, number, 60) if chance.randrange(2) else (one, other, -60, number))
+    return many, last, ties, falls
+
+
 def looser_webs(chance, web):
     """Webs that ask for less than this one: pairs of what was loosened and the web."""
     many, last, ties, falls = web

@@ -5,7 +5,7 @@ from itertools import combinations_with_replacement, permutations, product
 from momentties.closing import kept
 from momentties.webs import Web
 from tests.reckoning import (all_that_holds, drawn_lengths, following_web, is_kept, is_paper_by_rows, outcomes,
-                             rule_followed, rule_holds, some_hand_keeps, some_web)
+                             one_sided_web, rule_followed, rule_holds, some_hand_keeps, some_web)
 
 WORDS = {"told", "sum", "late", "soon", "sure", "back", "cross"}
 
@@ -69,6 +69,8 @@ def small_webs():
         fall_count = min(many - 1, chance.randint(0, 2))
         if chance.randrange(2):
             yield following_web(chance, many, last, fall_count, chance.randint(0, 3), chance.randint(1, last))
+        elif chance.randrange(2):
+            yield one_sided_web(chance, many, last, fall_count, chance.randint(1, 3), chance.randint(1, last))
         else:
             yield some_web(chance, many, last, fall_count, chance.randint(1, 4), 2, chance.choice((0, 9)))
 
@@ -83,6 +85,9 @@ def large_webs():
     for many in range(3, 9):
         for turn in range(6):
             yield some_web(chance, many, 60, chance.randint(1, many - 1), many, 20, 7)
+        for turn in range(20):
+            fall_count = chance.randint(1, max(1, many // 2))
+            yield one_sided_web(chance, many, 60, fall_count, chance.randint(2, 5), chance.choice((8, 14, 40)))
 
 
 class Held(unittest.TestCase):
@@ -254,6 +259,19 @@ class WordsTest(Held):
                     (5, 9, [(0, 3, 0, 1), (4, 1, -5, 1)], [(3, 4, 1, 3), (0, 1, 1, 4), (3, 2, 3, 3)]),
                     (6, 9, [(0, 5, 1, 2), (3, 4, 0, 6)], [(0, 3, 2, 4), (0, 1, 2, 4), (5, 4, 1, 2)])):
             self.held_to_paper_with("back", web)
+
+    def test_back_by_a_tie_drawn_late(self):
+        # Here the wait is known ahead of the tie by which "back" goes on from it. By ties and falls:
+        for many, ties, falls in (
+                (7, [(4, 3, -60, 3), (4, 1, -6, 60)], [(6, 3, 2, 8), (6, 2, 1, 8), (5, 4, 2, 9), (6, 1, 5, 9)]),
+                (7, [(1, 3, -4, 60), (4, 3, -60, 4)], [(2, 3, 1, 7), (0, 4, 5, 12), (6, 1, 1, 8), (6, 5, 2, 7)]),
+                (8, [(5, 6, -60, 2), (5, 3, 0, 60)], [(4, 6, 2, 6), (4, 3, 6, 13), (2, 5, 1, 4)]),
+                (8, [(5, 7, -2, 60), (2, 4, -2, 60), (7, 4, -60, 1)], [(3, 2, 1, 6), (1, 4, 1, 3), (0, 7, 4, 10)])):
+            web = (many, 60, ties, falls)
+            with self.subTest(web=web):
+                kind, rows = kept(Web(*web))[:2]
+                self.assertEqual(kind, "paper")
+                self.assertTrue(is_paper_by_rows(web, rows))
 
     def test_ends_tied_to_one_another(self):
         web = (4, 9, [(1, 2, 0, 9)], [(0, 1, 1, 4), (3, 2, 1, 5)])
